@@ -2,10 +2,11 @@
 
 OLDEST_FATHER = 12
 OLDEST_FIRST = 20
+MOST_TAKEN_BACK = 20
 
 
 class Descent:
-    """The gap, the sons, the first men and the rule, as they are told so far."""
+    """The gap, the sons, the first men and the rule, as they are told so far, and the changes that led there."""
 
     def __init__(self):
         self.begin(0)
@@ -15,6 +16,32 @@ class Descent:
         self.sons = [0] * (OLDEST_FATHER + 1)
         self.firsts = [0] * (OLDEST_FIRST + 1)
         self.rule = None
+        self.earlier = []
+        self.later = []
+
+    def as_it_is(self):
+        return (self.gap, tuple(self.sons), tuple(self.firsts), self.rule)
+
+    def put_back(self, kept):
+        self.gap = kept[0]
+        self.sons = list(kept[1])
+        self.firsts = list(kept[2])
+        self.rule = kept[3]
+
+    def mark_change(self):
+        """Comes ahead of each change, also ahead of one that leaves all as it was."""
+        self.earlier.append(self.as_it_is())
+        if len(self.earlier) > MOST_TAKEN_BACK:
+            self.earlier.pop(0)
+        self.later = []
+
+    def take_back(self):
+        self.later.append(self.as_it_is())
+        self.put_back(self.earlier.pop())
+
+    def do_again(self):
+        self.earlier.append(self.as_it_is())
+        self.put_back(self.later.pop())
 
 
 def is_counted(rule, grade):
@@ -47,3 +74,17 @@ def generation(descent, n):
     for step in range(n):
         ages = next_generation(descent, ages)
     return ages
+
+
+def lost_sons(descent, fathers):
+    lost = 0
+    for came_in, men in fathers.items():
+        for x, sons in enumerate(descent.sons):
+            if not is_counted(descent.rule, x - came_in):
+                lost += men * sons
+    return lost
+
+
+def ages_at_births(descent):
+    """How old a father is at the births of all his sons, together."""
+    return sum([x * sons for x, sons in enumerate(descent.sons)])

@@ -1,23 +1,18 @@
-"""Point 3: gs_total, gs_count, gs_younger, gs_between, gs_mean."""
+"""Point 3: gs_total, gs_count, gs_younger, gs_between, gs_mean, gs_spread, gs_most, gs_lost."""
 
 import random
 import unittest
 
 from tests.lines import (
-    BETWEEN, COUNT, FIRST, FREE, GAP, HUGE, MEAN, RULE, SONS, START, TOTAL, YOUNGER, ask, everything, last, second,
+    BETWEEN, COUNT, FIRST, GAP, HUGE, LOST, MEAN, MOST, RULE, SONS, SPREAD, START, TOTAL, YOUNGER, ask, by_age,
+    everything, last,
 )
+from tests.second_way import drawn_change, drawn_line, drawn_question, second
 
 # Generation 1: two at 0 + 4 - 3 = 1, one at 0 + 4 - 6 = -2, and three times as many at 6 and 3.
 SMALL = [(START, 4), (SONS, 3, 2), (SONS, 6, 1), (FIRST, 0, 1), (FIRST, 5, 3)]
 FULL = [(START, 1), (SONS, 12, 9), (SONS, 11, 9), (SONS, 10, 9), (SONS, 9, 9), (SONS, 0, 4)]
 FULL += [(FIRST, e, 9) for e in range(21)]
-
-
-def by_age(told, n):
-    """How many come in at each age from -60 to 80."""
-    calls = [(YOUNGER, n, e) for e in range(60, 0, -1)] + [(COUNT, n, e) for e in range(81)]
-    found = ask(*told, *calls)[len(told):]
-    return {age: answer[1] for age, answer in zip(range(-60, 81), found) if answer[1]}
 
 
 class Total(unittest.TestCase):
@@ -186,30 +181,137 @@ class Mean(unittest.TestCase):
         self.assertEqual(ask((START, 4), (MEAN, 3), (MEAN, 4), (MEAN, HUGE))[-3:], [[-33], [-22], [-22]])
 
 
-class WhatHolds(unittest.TestCase):
-    def test_without_a_rule_none_is_lost(self):
-        totals = [answer[1] for answer in ask(*FULL, *[(TOTAL, n) for n in range(4)])[-4:]]
-        self.assertEqual(totals[1:], [40 * total for total in totals[:-1]])
+class Spread(unittest.TestCase):
+    def test_above_0(self):
+        self.assertEqual(last((START, 4), (FIRST, 3, 1), (FIRST, 7, 2), (FIRST, 20, 1), (SPREAD, 0)), [17, 0, 3, 0, 20])
 
-    def test_nobody_too_old_by_a_rule(self):
-        for g in (1, 6, 10):
-            for a, e in ((0, 3), (2, 9), (5, 40)):
-                for n in (1, 2, 3):
-                    for age in by_age([(START, g)] + FULL[1:] + [(RULE, a, e)], n):
-                        self.assertTrue(g - e < age <= g - a)
+    def test_at_0(self):
+        self.assertEqual(last(*SMALL, (SPREAD, 0)), [5, 0, 0, 0, 5])
+        self.assertEqual(last((START, 4), (FIRST, 0, 2), (SPREAD, 0)), [0, 0, 0, 0, 0])
+        self.assertEqual(last((START, 4), (FIRST, 0, 2), (SONS, 4, 1), (SONS, 9, 1), (SPREAD, 1)), [5, 1, 5, 0, 0])
 
-    def test_if_they_balance(self):
-        # For each son the ages grow by the gap less x: 4 less 3 twice, 4 less 6 once.
-        ages = [by_age(SMALL, n) for n in range(4)]
-        sums = [sum(age * men for age, men in found.items()) for found in ages]
-        for n in range(3):
-            men = sum(ages[n].values())
-            self.assertEqual(sums[n + 1], 3 * sums[n] + men * (2 * (4 - 3) + (4 - 6)))
+    def test_the_least_below_0(self):
+        self.assertEqual(ask(*SMALL, (SPREAD, 1), (SPREAD, 2), (SPREAD, 3))[-3:], [
+            [8, 1, 2, 0, 6], [11, 1, 4, 0, 7], [14, 1, 6, 0, 8],
+        ])
 
-    def test_never_fewer_by_a_wider_rule(self):
-        for n in range(4):
-            counts = [last(*FULL, (RULE, 4, e), (TOTAL, n))[1] for e in range(5, 14)]
-            self.assertEqual(counts, sorted(counts))
+    def test_both_below_0(self):
+        told = [(START, 1), (FIRST, 0, 2), (FIRST, 1, 4), (SONS, 12, 3), (SONS, 10, 1)]
+        self.assertEqual(ask(*told, (SPREAD, 1), (SPREAD, 3))[-2:], [[3, 1, 11, 1, 8], [7, 1, 33, 1, 26]])
+
+    def test_one_age_alone(self):
+        self.assertEqual(last((START, 4), (FIRST, 6, 9), (SPREAD, 0)), [0, 0, 6, 0, 6])
+        self.assertEqual(last((START, 4), (FIRST, 6, 9), (SONS, 12, 1), (SPREAD, 2)), [0, 1, 10, 1, 10])
+
+    def test_those_who_are_lost_do_not_count(self):
+        # Of 1, -2, 6 and 3 the rule leaves 1 (grade 3) and 3 (grade 1).
+        self.assertEqual(last(*SMALL, (RULE, 0, 6), (SPREAD, 1)), [2, 0, 1, 0, 3])
+
+    def test_ages_told_anew_with_nobody_do_not_count(self):
+        told = [(START, 4), (FIRST, 2, 1), (FIRST, 5, 1), (FIRST, 9, 1), (FIRST, 2, 0), (FIRST, 9, 0)]
+        self.assertEqual(last(*told, (SPREAD, 0)), [0, 0, 5, 0, 5])
+
+    def test_widest(self):
+        self.assertEqual(last((START, 1), (FIRST, 0, 1), (FIRST, 20, 1), (SONS, 0, 1), (SONS, 12, 1), (SPREAD, 3)),
+                         [56, 1, 33, 0, 23])
+
+    def test_nobody(self):
+        self.assertEqual(ask((START, 4), (SONS, 1, 1), (SPREAD, 0), (SPREAD, 3))[-2:], [[-33], [-33]])
+        self.assertEqual(ask((START, 4), (FIRST, 1, 1), (SPREAD, 0), (SPREAD, 1))[-2:], [[0, 0, 1, 0, 1], [-33]])
+        self.assertEqual(last(*SMALL, (RULE, 39, 40), (SPREAD, 1)), [-33])
+
+    def test_generation_3_and_4(self):
+        self.assertEqual(ask(*SMALL, (SPREAD, 3), (SPREAD, 4), (SPREAD, HUGE))[-2:], [[-22], [-22]])
+        self.assertEqual(ask((START, 4), (SPREAD, 3), (SPREAD, 4), (SPREAD, HUGE))[-3:], [[-33], [-22], [-22]])
+
+
+class Most(unittest.TestCase):
+    def test_above_0(self):
+        self.assertEqual(ask(*SMALL, (MOST, 0), (MOST, 1))[-2:], [[0, 0, 5, 3], [0, 0, 6, 6]])
+
+    def test_at_0(self):
+        self.assertEqual(last(*SMALL, (FIRST, 0, 4), (MOST, 0)), [0, 0, 0, 4])
+
+    def test_below_0(self):
+        told = [(START, 1), (FIRST, 0, 2), (FIRST, 1, 4), (SONS, 12, 3)]
+        self.assertEqual(
+            ask(*told, (MOST, 1), (MOST, 2), (MOST, 3))[-3:],
+            [[0, 1, 10, 12], [0, 1, 21, 36], [0, 1, 32, 108]],
+        )
+
+    def test_of_like_ones_the_least(self):
+        # Generation 2 has 12 at 7 and 12 at 4.
+        self.assertEqual(last(*SMALL, (MOST, 2)), [0, 0, 4, 12])
+        for order in ((9, 2, 14), (14, 9, 2), (2, 14, 9)):
+            told = [(START, 4)] + [(FIRST, e, 5) for e in order] + [(FIRST, 1, 4), (FIRST, 0, 1)]
+            self.assertEqual(last(*told, (MOST, 0)), [0, 0, 2, 5])
+
+    def test_of_like_ones_below_0_and_above_the_least(self):
+        told = [(START, 5), (FIRST, 0, 2), (SONS, 2, 3), (SONS, 5, 3), (SONS, 8, 3), (SONS, 9, 2)]
+        self.assertEqual(last(*told, (MOST, 1)), [0, 1, 3, 6])
+        told = [(START, 1), (FIRST, 0, 2), (SONS, 5, 3), (SONS, 7, 3)]
+        self.assertEqual(last(*told, (MOST, 1)), [0, 1, 6, 6])
+
+    def test_the_most_there_can_be(self):
+        told = [(START, 1)] + [(SONS, x, 9) for x in (3, 4, 5, 6)] + [(SONS, 7, 4)] + [(FIRST, e, 9) for e in range(21)]
+        found = last(*told, (MOST, 3))
+        self.assertEqual(found, second(told + [(MOST, 3)])[-1])
+        self.assertEqual(found[3], max(by_age(told, 3).values()))
+
+    def test_nobody(self):
+        self.assertEqual(ask((START, 4), (SONS, 1, 1), (MOST, 0), (MOST, 3))[-2:], [[-33], [-33]])
+        self.assertEqual(ask((START, 4), (FIRST, 1, 1), (MOST, 0), (MOST, 1))[-2:], [[0, 0, 1, 1], [-33]])
+        self.assertEqual(last(*SMALL, (RULE, 39, 40), (MOST, 1)), [-33])
+
+    def test_generation_3_and_4(self):
+        self.assertEqual(ask(*SMALL, (MOST, 3), (MOST, 4), (MOST, HUGE))[-3:], [[0, 0, 5, 36], [-22], [-22]])
+        self.assertEqual(ask((START, 4), (MOST, 3), (MOST, 4), (MOST, HUGE))[-3:], [[-33], [-22], [-22]])
+
+
+class Lost(unittest.TestCase):
+    def test_without_a_rule_none(self):
+        self.assertEqual(ask(*SMALL, (LOST, 0), (LOST, 1), (LOST, 2))[-3:], [[0, 0, 12], [0, 0, 36], [0, 0, 108]])
+
+    def test_with_a_rule(self):
+        # Below grade 6 and from 0 on: of 3 less 0, 6 less 0, 3 less 5 and 6 less 5 the first and the last are within.
+        # Of 1 and 3, twice and thrice, 3 less 1, 6 less 1, 3 less 3, 6 less 3: all of them are.
+        told = SMALL + [(RULE, 0, 6)]
+        self.assertEqual(ask(*told, (LOST, 0), (LOST, 1))[-2:], [[0, 7, 5], [0, 0, 15]])
+        self.assertEqual(last(*SMALL, (RULE, 0, 5), (LOST, 1)), [0, 2, 13])
+
+    def test_in_generations_0_1_2(self):
+        # Each comes in 5 terms younger than his father: sons are born in the grades 6, 11 and 16.
+        told = [(START, 1), (FIRST, 0, 4), (SONS, 6, 2)]
+        for e, wanted in (
+            (17, [[0, 0, 8], [0, 0, 16], [0, 0, 32]]),
+            (16, [[0, 0, 8], [0, 0, 16], [0, 32, 0]]),
+            (11, [[0, 0, 8], [0, 16, 0], [0, 0, 0]]),
+            (6, [[0, 8, 0], [0, 0, 0], [0, 0, 0]]),
+        ):
+            self.assertEqual(ask(*told, (RULE, 0, e), (LOST, 0), (LOST, 1), (LOST, 2))[-3:], wanted)
+
+    def test_those_below_the_first_grade(self):
+        told = [(START, 5), (FIRST, 2, 1)] + [(SONS, x, 3) for x in range(13)]
+        for a in range(11):
+            self.assertEqual(last(*told, (RULE, a, 40), (LOST, 0)), [0, 3 * (2 + a), 3 * (11 - a)])
+
+    def test_sons_before_he_comes_in_are_lost_by_any_rule(self):
+        told = [(START, 5), (FIRST, 20, 4), (SONS, 12, 9)]
+        self.assertEqual(ask(*told, (LOST, 0), (RULE, 0, 40), (LOST, 0))[-3:], [[0, 0, 36], [0], [0, 36, 0]])
+
+    def test_nobody_or_no_sons(self):
+        self.assertEqual(ask((START, 4), (SONS, 1, 1), (LOST, 0), (LOST, 2))[-2:], [[0, 0, 0], [0, 0, 0]])
+        told = [(START, 4), (FIRST, 1, 1), (RULE, 0, 1)]
+        self.assertEqual(ask(*told, (LOST, 0), (LOST, 2))[-2:], [[0, 0, 0], [0, 0, 0]])
+
+    def test_the_most_there_can_be(self):
+        self.assertEqual(ask(*FULL, (LOST, 2), (RULE, 39, 40), (LOST, 0), (LOST, 1))[-4:],
+                         [[0, 0, 12096000], [0], [0, 7560, 0], [0, 0, 0]])
+
+    def test_generation_2_and_3(self):
+        self.assertEqual(ask(*SMALL, (LOST, 2), (LOST, 3), (LOST, 4), (LOST, HUGE))[-4:],
+                         [[0, 0, 108], [-22], [-22], [-22]])
+        self.assertEqual(ask((START, 4), (LOST, 2), (LOST, 3))[-2:], [[0, 0, 0], [-22]])
 
 
 class SecondWay(unittest.TestCase):
@@ -221,27 +323,18 @@ class SecondWay(unittest.TestCase):
         self.check(SMALL + [(RULE, 1, 5)] + everything())
         self.check(SMALL + [(RULE, 3, 40), (GAP, 10)] + everything())
 
-    def test_lists_drawn_by_lot(self):
+    def test_changes_and_questions_drawn_by_lot(self):
         lot = random.Random(20)
         for turn in range(150):
             calls = [(START, lot.choice((0, 11, HUGE)))] * (turn % 3) + [(START, lot.randint(1, 10))]
             for step in range(40):
-                calls.append(drawn_call(lot))
+                calls.append(lot.choice((drawn_change, drawn_question))(lot))
             self.check(calls)
 
-
-def drawn_call(lot):
-    n = lot.choice((0, 1, 1, 2, 2, 3, 3, 4))
-    small = lot.randint(0, 10)
-    return lot.choice((
-        (START, lot.choice((0, 1, 10, 11))) if lot.random() < 0.2 else (FIRST, lot.randint(0, 21), small),
-        (SONS, lot.randint(0, 13), small), (SONS, lot.randint(0, 4), lot.randint(7, 10)),
-        (FIRST, lot.randint(0, 12), small), (FIRST, lot.randint(0, 3), small),
-        (RULE, lot.randint(0, 6), lot.randint(1, 14)) if lot.random() < 0.5 else (FREE,),
-        (GAP, lot.randint(0, 11)),
-        (TOTAL, n), (MEAN, n), (MEAN, n), (COUNT, n, lot.randint(0, 20)), (YOUNGER, n, lot.randint(0, 15)),
-        (BETWEEN, n, lot.randint(0, 9), lot.randint(5, 25)),
-    ))
+    def test_lines_drawn_by_lot(self):
+        lot = random.Random(21)
+        for turn in range(100):
+            self.check(drawn_line(lot, 60))
 
 
 if __name__ == "__main__":

@@ -1,9 +1,10 @@
-"""Points 1 and 2: gs_start, gs_sons, gs_first, gs_gap, gs_rule, gs_free."""
+"""Points 1, 2 and 4: gs_start and what is told of an object, changed and told again."""
 
 import unittest
 
 from tests.lines import (
-    BETWEEN, COUNT, FIRST, FREE, GAP, HUGE, MEAN, RULE, SONS, START, TOTAL, YOUNGER, ask, everything, last,
+    BALANCE, BETWEEN, BOUNDS, COUNT, EACH, FIRST, FREE, GAP, HUGE, LOST, MEAN, MOST, RULE, SONS, SPREAD, START, STATE,
+    TOLD_SONS, TOTAL, YOUNGER, ask, everything, last,
 )
 
 # Sons at several ages of their fathers, several first men and a rule: 40 sons in all.
@@ -35,9 +36,9 @@ class Start(unittest.TestCase):
             self.assertEqual(last((START, g), (FIRST, 0, 1), (SONS, 0, 1), (COUNT, 1, g)), [0, 1])
 
     def test_nothing_is_told_behind_it(self):
-        calls = [(START, 4), (FREE,), (TOTAL, 0), (TOTAL, 3), (MEAN, 0)]
+        calls = [(START, 4), (FREE,), (TOTAL, 0), (TOTAL, 3), (MEAN, 0), (STATE,)]
         calls += [(SONS, x, 0) for x in range(13)] + [(FIRST, e, 0) for e in range(21)]
-        self.assertEqual(ask(*calls), [[0], [-6], [0, 0], [0, 0], [-33]] + [[0]] * 34)
+        self.assertEqual(ask(*calls), [[0], [-6], [0, 0], [0, 0], [-33], [4, 0, 0, 0, 0, 0]] + [[0]] * 34)
 
     def test_again_it_clears_all(self):
         new = [(FREE,)] + [(SONS, x, 0) for x in range(13)] + [(FIRST, e, 0) for e in range(21)]
@@ -183,6 +184,113 @@ class Free(unittest.TestCase):
         self.assertEqual(ask(*told, *everything())[len(told):], ask(*plain, *everything())[len(plain):])
 
 
+class ToldSons(unittest.TestCase):
+    def test_from_0_to_12(self):
+        for x in range(13):
+            wanted = [0] * 13
+            wanted[x] = 9
+            self.assertEqual(last((START, 3), (SONS, x, 9), (TOLD_SONS,)), [13] + wanted)
+
+    def test_all_ages(self):
+        calls = [(START, 3)] + [(SONS, x, x % 6) for x in range(13)]
+        self.assertEqual(last(*calls, (TOLD_SONS,)), [13, 0, 1, 2, 3, 4, 5, 0, 1, 2, 3, 4, 5, 0])
+
+    def test_none(self):
+        self.assertEqual(last((START, 3), (TOLD_SONS,)), [13] + [0] * 13)
+
+    def test_lost_sons_are_told_too(self):
+        self.assertEqual(last(*TOLD, (RULE, 39, 40), (TOLD_SONS,)), [13, 0, 0, 9, 0, 9, 0, 0, 9, 0, 9, 0, 0, 4])
+
+    def test_what_was_answered_earlier_stays(self):
+        found = ask((START, 3), (SONS, 1, 2), (TOLD_SONS,), (SONS, 1, 5), (TOLD_SONS,))
+        self.assertEqual([found[2][2], found[4][2]], [2, 5])
+
+
+class Each(unittest.TestCase):
+    def test_something_in_common(self):
+        self.assertEqual(last((START, 3), (SONS, 3, 2), (SONS, 6, 1), (EACH,)), [3, 0, 4, 1])
+        self.assertEqual(last((START, 3), (SONS, 3, 2), (SONS, 6, 4), (SONS, 7, 2), (EACH,)), [8, 0, 11, 2])
+
+    def test_nothing_in_common(self):
+        self.assertEqual(last((START, 3), (SONS, 3, 2), (SONS, 5, 1), (EACH,)), [3, 0, 11, 3])
+        self.assertEqual(last((START, 3), (SONS, 1, 1), (SONS, 0, 8), (EACH,)), [9, 0, 1, 9])
+
+    def test_40_sons(self):
+        # 18 + 36 + 63 + 81 + 48 = 246 by 40.
+        self.assertEqual(last(*TOLD, (EACH,)), [40, 0, 123, 20])
+
+    def test_one_age_alone(self):
+        for x in range(13):
+            self.assertEqual(last((START, 3), (SONS, x, 7), (EACH,)), [7, 0, x, 1])
+
+    def test_no_sons(self):
+        self.assertEqual(
+            ask((START, 3), (EACH,), (SONS, 0, 1), (EACH,), (SONS, 0, 0), (EACH,)),
+            [[0], [-33], [0], [1, 0, 0, 1], [1], [-33]],
+        )
+
+    def test_neither_gap_nor_rule_nor_first_men_matter(self):
+        told = [(START, 10), (SONS, 3, 2), (SONS, 5, 1)]
+        self.assertEqual(ask(*told, (RULE, 39, 40), (EACH,), (GAP, 1), (EACH,), (FIRST, 4, 4), (EACH,))[-5::2],
+                         [[3, 0, 11, 3]] * 3)
+
+
+class Balance(unittest.TestCase):
+    def test_above_0_at_0_and_below(self):
+        told = [(START, 5), (SONS, 3, 2), (SONS, 6, 1)]
+        self.assertEqual(
+            ask(*told, (BALANCE,), (GAP, 4), (BALANCE,), (GAP, 3), (BALANCE,), (GAP, 1), (BALANCE,))[-7::2],
+            [[3, 0, 3], [3, 0, 0], [3, 1, 3], [3, 1, 9]],
+        )
+
+    def test_just_below_0(self):
+        self.assertEqual(last((START, 5), (SONS, 6, 1), (BALANCE,)), [1, 1, 1])
+
+    def test_no_sons(self):
+        self.assertEqual(last((START, 5), (BALANCE,)), [0, 0, 0])
+
+    def test_furthest(self):
+        ages = [(SONS, 0, 9), (SONS, 1, 9), (SONS, 2, 9), (SONS, 3, 9), (SONS, 4, 4)]
+        self.assertEqual(last((START, 10), *ages, (BALANCE,)), [40, 0, 330])
+        ages = [(SONS, 12, 9), (SONS, 11, 9), (SONS, 10, 9), (SONS, 9, 9), (SONS, 8, 4)]
+        self.assertEqual(last((START, 1), *ages, (BALANCE,)), [40, 1, 370])
+
+    def test_lost_sons_count_too(self):
+        told = [(START, 5), (SONS, 3, 2), (SONS, 6, 1), (FIRST, 2, 2)]
+        self.assertEqual(last(*told, (RULE, 39, 40), (BALANCE,)), [3, 0, 3])
+
+
+class Bounds(unittest.TestCase):
+    def test_both_below_0(self):
+        self.assertEqual(last((START, 3), (RULE, 4, 9), (BOUNDS,)), [5, 1, 5, 1, 1])
+        self.assertEqual(last((START, 1), (RULE, 39, 40), (BOUNDS,)), [1, 1, 38, 1, 38])
+
+    def test_one_below_0(self):
+        self.assertEqual(last((START, 3), (RULE, 1, 6), (BOUNDS,)), [5, 1, 2, 0, 2])
+        self.assertEqual(last((START, 10), (RULE, 0, 40), (BOUNDS,)), [40, 1, 29, 0, 10])
+
+    def test_none_below_0(self):
+        self.assertEqual(last((START, 8), (RULE, 2, 6), (BOUNDS,)), [4, 0, 3, 0, 6])
+
+    def test_at_0(self):
+        self.assertEqual(last((START, 5), (RULE, 0, 6), (BOUNDS,)), [6, 0, 0, 0, 5])
+        self.assertEqual(last((START, 5), (RULE, 5, 7), (BOUNDS,)), [2, 1, 1, 0, 0])
+        self.assertEqual(last((START, 5), (RULE, 5, 6), (BOUNDS,)), [1, 0, 0, 0, 0])
+
+    def test_by_the_rule_and_the_gap_alone(self):
+        plain = [(START, 5), (RULE, 20, 30)]
+        told = plain + [(SONS, 3, 2), (FIRST, 1, 1), (FIRST, 20, 3)]
+        self.assertEqual(last(*plain, (BOUNDS,)), [10, 1, 24, 1, 15])
+        self.assertEqual(last(*told, (BOUNDS,)), [10, 1, 24, 1, 15])
+        self.assertEqual(last(*told, (GAP, 10), (BOUNDS,)), [10, 1, 19, 1, 10])
+
+    def test_no_rule(self):
+        self.assertEqual(
+            ask((START, 5), (BOUNDS,), (RULE, 0, 1), (BOUNDS,), (FREE,), (BOUNDS,)),
+            [[0], [-33], [0], [1, 0, 5, 0, 5], [0], [-33]],
+        )
+
+
 class Refusals(unittest.TestCase):
     def test_they_answer_their_number_alone_and_leave_all(self):
         refused = {
@@ -190,6 +298,7 @@ class Refusals(unittest.TestCase):
                 (START, 0), (START, 11), (SONS, 13, 0), (SONS, 0, 10), (FIRST, 21, 1), (FIRST, 0, 10), (GAP, 0),
                 (GAP, 11), (RULE, 3, 3), (RULE, 0, 41), (TOTAL, 4), (COUNT, 4, 0), (COUNT, 0, 81), (YOUNGER, 4, 0),
                 (YOUNGER, 0, 61), (BETWEEN, 4, 0, 1), (BETWEEN, 0, 1, 0), (BETWEEN, 0, 0, 81), (MEAN, 4),
+                (SPREAD, 4), (MOST, 4), (LOST, 3),
             ],
             -28: [(SONS, 0, 1), (SONS, 12, 5)],
             -17: [(GAP, 5), (RULE, 1, 8)],
